@@ -39,6 +39,17 @@ func Must(x, n int) string {
 	return s
 }
 
+// Fits says whether all numbers are from 0 to the greatest one of n bytes.
+func Fits(n int, l ...int) bool {
+	for _, x := range l {
+		// Below 0, a number would be taken for one of eight bytes.
+		if _, err := Put(uint64(x), n); err != nil || x < 0 {
+			return false
+		}
+	}
+	return true
+}
+
 // isWidth says whether a number may have n bytes.
 func isWidth(n int) bool { return n >= 1 && n <= widest }
 

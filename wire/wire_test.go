@@ -123,6 +123,28 @@ func TestMust(t *testing.T) {
 	}
 }
 
+// Fits is for all numbers that Put writes in so many bytes, but none below 0; of no numbers, it is.
+func TestFits(t *testing.T) {
+	numbers := []int{math.MinInt, -1 << 32, -256, -1, 0, 1, 255, 256, 65535, 65536, 1<<24 - 1, 1 << 24, 1<<32 - 1, 1 << 32, 1<<56 - 1, 1 << 56, math.MaxInt}
+	for n := -1; n <= 10; n++ {
+		for _, x := range numbers {
+			_, err := wire.Put(uint64(x), n)
+			want := x >= 0 && err == nil
+			if got := wire.Fits(n, x); got != want {
+				t.Errorf("Fits(%d, %d) = %v", n, x, got)
+			}
+			for _, l := range [][]int{{x, 1, 2}, {1, x, 2}, {1, 2, x}} {
+				if got := wire.Fits(n, l...); got != want {
+					t.Errorf("Fits(%d, %d) = %v", n, l, got)
+				}
+			}
+		}
+	}
+	if !wire.Fits(1) || !wire.Fits(2, 0, 1, 65535) || wire.Fits(2, 0, 1, 65536) {
+		t.Error("Fits: another answer")
+	}
+}
+
 // 1.2: At begins at off and grows by what is read, and Left falls by it.
 func TestReaderReads(t *testing.T) {
 	for _, off := range []int{0, 14, 1 << 40} {
