@@ -2,6 +2,7 @@
 package wire
 
 import (
+	"slices"
 	"strings"
 
 	"switchyard/api"
@@ -106,6 +107,18 @@ func (r *Reader) Num(n int) int {
 		x = x<<8 | uint64(b)
 	}
 	return int(x)
+}
+
+// Expect reads as many bytes as a text has, and is what they are: this text, or another one. ErrForm: they are none of these; ErrMissing: there are not so many.
+func (r *Reader) Expect(text string, others ...string) string {
+	at := r.at
+	s := r.Bytes(len(text))
+	if s != text && !slices.Contains(others, s) {
+		// Bytes that are missing have been noted by then, and stay what was wrong first.
+		r.Fail(api.ErrForm, at)
+		return ""
+	}
+	return s
 }
 
 // Zeros says whether all that is left is 0, and nothing was wrong before. (It is read then.) ErrSpoilt, at the first that isn't.

@@ -3,6 +3,7 @@ package wire_test
 import (
 	"errors"
 	"math"
+	"strconv"
 	"strings"
 	"testing"
 
@@ -306,6 +307,67 @@ func TestPutNum(t *testing.T) {
 	}
 }
 
+// Expect reads bytes that are one of some texts; any other, as long as the first one, are ErrForm where they begin.
+func TestExpect(t *testing.T) {
+	for _, c := range []struct {
+		s      string
+		text   string
+		others []string
+		want   string
+		e      api.Errno
+	}{
+		{"abcd", "ab", nil, "ab", api.OK},
+		{"ab", "ab", nil, "ab", api.OK},
+		{"abcd", "ax", []string{"bb", "ab", "cd"}, "ab", api.OK},
+		{"\x00\xff", "\x00", []string{"\xff"}, "\x00", api.OK},
+		{"\xff\x00", "\x00", []string{"\xff"}, "\xff", api.OK},
+		{"abcd", "", nil, "", api.OK},
+		{"", "", nil, "", api.OK},
+		{"abcd", "ac", nil, "", api.ErrForm},
+		{"abcd", "Ab", []string{"aB", "ba"}, "", api.ErrForm},
+		{"abcd", "xy", []string{"a", "abc", ""}, "", api.ErrForm},
+		{"", "a", nil, "", api.ErrMissing},
+		{"ab", "abc", nil, "", api.ErrMissing},
+		{"xy", "abc", []string{"xy"}, "", api.ErrMissing},
+	} {
+		r := wire.New("--"+c.s, 40)
+		r.Bytes(2)
+		if got := r.Expect(c.text, c.others...); got != c.want {
+			t.Errorf("Expect(%q, %q) of %q = %q, want %q", c.text, c.others, c.s, got, c.want)
+		}
+		read := len(c.text)
+		if c.e == api.ErrMissing {
+			read = 0
+		}
+		checkReader(t, "Expect of "+strconv.Quote(c.s), r, 42+read, len(c.s)-read, c.e, 42)
+	}
+}
+
+// 1.2: once an error has been noted, Expect reads nothing, whatever comes next.
+func TestExpectAfterFail(t *testing.T) {
+	for _, text := range []string{"ab", "xy", "abcdef", ""} {
+		r := wire.New("abcd", 0)
+		r.Fail(api.ErrName, 3)
+		if got := r.Expect(text, "cd", ""); got != "" {
+			t.Errorf("Expect(%q) = %q after an error", text, got)
+		}
+		checkReader(t, "Expect after an error", r, 0, 4, api.ErrName, 3)
+	}
+}
+
+// P4: Expect neither changes nor keeps the texts that it is told.
+func TestExpectKeepsNothing(t *testing.T) {
+	others := []string{"xy", "ab", "zz"}
+	r := wire.New("abab", 0)
+	first := r.Expect("cd", others[:2]...)
+	if first != "ab" || others[0] != "xy" || others[1] != "ab" || others[2] != "zz" {
+		t.Errorf("Expect = %q, and the texts are %q", first, others)
+	}
+	others[1] = "cc"
+	r.Expect("cd", others...)
+	checkReader(t, "Expect of other texts", r, 4, 0, api.ErrForm, 2)
+}
+
 // 1.2: Zeros reads up to the first byte that is not 0, and tells its place.
 func TestZeros(t *testing.T) {
 	for _, c := range []struct {
@@ -419,6 +481,7 @@ func TestNoPanic(t *testing.T) {
 			r.Sub(n).Num(n)
 			r.Num(n)
 			r.Bytes(n)
+			r.Expect("\x00", "a")
 			r.Zeros()
 			r.Fail(api.Errno(n), x)
 			if r.Err() == nil {
